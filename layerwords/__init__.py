@@ -1,0 +1,1 @@
+"""Words of steps that are alike but for how they are held."""

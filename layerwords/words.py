@@ -1,0 +1,54 @@
+"""Words of steps, and what the ways to hold them otherwise make of them.
+
+A word is a list of steps, each 0 (down) or 1 (up). No function here changes the word it is given.
+"""
+
+MOST_STEPS = 10
+KINDS_OF_WAYS = 4
+
+
+def is_word(row):
+    if len(row) < 1 or len(row) > MOST_STEPS:
+        return False
+    return all([step in (0, 1) for step in row])
+
+
+def later(word, k):
+    return word[k:] + word[:k]
+
+
+def opposite(word):
+    return [1 - step for step in word]
+
+
+def backwards(word):
+    return list(reversed(word))
+
+
+def over(word):
+    return opposite(backwards(word))
+
+
+def turn(word, i):
+    return word[:i] + [1 - word[i]] + word[i + 1:]
+
+
+def number_of_ways(word):
+    return KINDS_OF_WAYS * len(word)
+
+
+def way(word, t):
+    kind = t // len(word)
+    made = later(word, t % len(word))
+    if kind in (1, 3):
+        made = opposite(made)
+    if kind in (2, 3):
+        made = backwards(made)
+    return made
+
+
+def names(word):
+    """All names of the word, each once, in order, as tuples."""
+    made = [tuple(way(word, t)) for t in range(number_of_ways(word))]
+    # Tuples of one length are sorted by the first place at which they differ: that is the order of words.
+    return sorted(set(made))
