@@ -1,10 +1,12 @@
 """The calls on one object: read from one list, answered in one list."""
 
-from layerwords.words import backwards, is_word, later, names, number_of_ways, opposite, over, turn, way
+from layerwords.words import again, backwards, is_handed, is_word, later, leaving_of_each_kind, names
+from layerwords.words import number_of_ways, opposite, over, turn, way, ways_between, ways_that_leave
 
-NO_STEP = -2
+NO_SUCH = -2
 NO_WORD = -11
 NOT_AS_TOLD = -22
+NOT_ALIKE = -33
 
 CALLS_WITH_A_NUMBER = (1, 5, 6, 9)
 CALLS_WITH_A_ROW = (0, 10, 13)
@@ -17,8 +19,9 @@ class Held:
         self.word = None
 
 
-def tell(word):
-    return [len(word)] + word
+def tell(row):
+    """How steps, or ways, are told: how many there are stands first."""
+    return [len(row)] + row
 
 
 def change(held, word):
@@ -57,7 +60,7 @@ def answer_over(held, told):
 
 def answer_turn(held, told):
     if told[0] >= len(held.word):
-        return [NO_STEP]
+        return [NO_SUCH]
     return change(held, turn(held.word, told[0]))
 
 
@@ -75,6 +78,55 @@ def answer_names(held, told):
     return [len(names(held.word))]
 
 
+def answer_nth(held, told):
+    found = names(held.word)
+    if told[0] >= len(found):
+        return [NO_SUCH]
+    return tell(list(found[told[0]]))
+
+
+def answer_which(held, told):
+    if not is_word(told):
+        return [NOT_AS_TOLD]
+    found = names(held.word)
+    if tuple(told) not in found:
+        return [NOT_ALIKE]
+    return [found.index(tuple(told))]
+
+
+def answer_leaves(held, told):
+    return tell(ways_that_leave(held.word))
+
+
+def answer_four(held, told):
+    return tell(leaving_of_each_kind(held.word))
+
+
+def answer_alike(held, told):
+    if not is_word(told):
+        return [NOT_AS_TOLD]
+    found = ways_between(held.word, told)
+    if len(found) == 0:
+        return [NOT_ALIKE]
+    return [found[0]]
+
+
+def answer_handed(held, told):
+    return [1 if is_handed(held.word) else 0]
+
+
+def answer_again(held, told):
+    return [again(held.word)]
+
+
+def answer_ups(held, told):
+    return [held.word.count(1), held.word.count(0)]
+
+
+def answer_state(held, told):
+    return tell(held.word)
+
+
 ANSWERED_BY = {
     0: answer_start,
     1: answer_later,
@@ -85,11 +137,19 @@ ANSWERED_BY = {
     6: answer_way,
     7: answer_first,
     8: answer_names,
+    9: answer_nth,
+    10: answer_which,
+    11: answer_leaves,
+    12: answer_four,
+    13: answer_alike,
+    14: answer_handed,
+    15: answer_again,
+    16: answer_ups,
+    17: answer_state,
 }
 
 
 def answer_call(held, call, told):
-    # Ahead of the look-up: without a word even a call that isn't in ANSWERED_BY yet is answered.
     if held.word is None and call != 0:
         return [NO_WORD]
     return ANSWERED_BY[call](held, told)

@@ -52,3 +52,28 @@ def names(word):
     made = [tuple(way(word, t)) for t in range(number_of_ways(word))]
     # Tuples of one length are sorted by the first place at which they differ: that is the order of words.
     return sorted(set(made))
+
+
+def ways_between(word, other):
+    """The ways that make the other word of this one, rising; none make one of another length."""
+    return [t for t in range(number_of_ways(word)) if way(word, t) == other]
+
+
+def ways_that_leave(word):
+    return ways_between(word, word)
+
+
+def leaving_of_each_kind(word):
+    """How many ways leave the word, of each kind in turn."""
+    kinds = [t // len(word) for t in ways_that_leave(word)]
+    return [kinds.count(kind) for kind in range(KINDS_OF_WAYS)]
+
+
+def is_handed(word):
+    counts = leaving_of_each_kind(word)
+    return counts[2] == 0 and counts[3] == 0
+
+
+def again(word):
+    # Begun as many steps later as it has, every word is the same: so there always is one.
+    return min([k for k in range(1, len(word) + 1) if later(word, k) == word])

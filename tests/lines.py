@@ -42,6 +42,11 @@ def ask(*calls):
     return found
 
 
+def about(text, *calls):
+    """The answers to these calls on the word that a text writes, one by one, without start's."""
+    return ask(("start", steps(text)), *calls)[1:]
+
+
 def steps(text):
     """The word that a text of 0 and 1 writes."""
     return [int(sign) for sign in text]
@@ -66,3 +71,8 @@ def way_by_text(text, t):
     if kind >= 2:
         made = made[::-1]
     return made
+
+
+def made_by_ways(text):
+    """What the ways make of a word, way by way."""
+    return [way_by_text(text, t) for t in range(4 * len(text))]

@@ -1,17 +1,12 @@
-"""Promise 3: first, names; and what holds of them."""
+"""Promise 3: first, names, nth, which."""
 
 import unittest
 
-from tests.lines import all_words, ask, steps, told, way_by_text
-
-
-def made_by_ways(text):
-    return [way_by_text(text, t) for t in range(4 * len(text))]
+from tests.lines import BIGGEST, about, all_words, ask, made_by_ways, steps, told
 
 
 def first_and_names(text):
-    found = ask(("start", steps(text)), ("first",), ("names",))
-    return found[1:]
+    return about(text, ("first",), ("names",))
 
 
 class ByHand(unittest.TestCase):
@@ -72,22 +67,7 @@ class AgainstTheWays(unittest.TestCase):
                          [[3], [2], told("101"), told("001"), [6], [-22], [6]])
 
 
-class WhatHolds(unittest.TestCase):
-    def test_alike_words_have_one_first_name_and_as_many_names(self):
-        for count in range(1, 11):
-            found = {text: first_and_names(text) for text in all_words(count)}
-            for text in found:
-                for other in made_by_ways(text):
-                    self.assertEqual(found[other], found[text], (text, other))
-
-    def test_words_with_one_first_name_are_alike(self):
-        for count in range(1, 9):
-            groups = {}
-            for text in all_words(count):
-                groups.setdefault(tuple(first_and_names(text)[0]), []).append(text)
-            for group in groups.values():
-                self.assertEqual(sorted(set(made_by_ways(group[0]))), group)
-
+class FirstNames(unittest.TestCase):
     def test_how_many_first_names_there_are(self):
         # Known apart from this program: rings of beads of two colours, turned over or with the colours changed alike.
         known = [1, 2, 2, 4, 4, 8, 9, 18, 23, 44]
@@ -104,6 +84,67 @@ class WhatHolds(unittest.TestCase):
                 found = ask(*calls)
                 self.assertEqual(found[2::3] + found[3::3],
                                  [first_and_names(text)[0]] * 4 + [first_and_names(text)[1]] * 4)
+
+
+class Nth(unittest.TestCase):
+    def test_by_hand(self):
+        names = ("001", "010", "011", "100", "101", "110")
+        self.assertEqual(about("110", *[("nth", k) for k in range(6)]), [told(name) for name in names])
+
+    def test_few_names(self):
+        self.assertEqual(about("1010", ("nth", 0), ("nth", 1), ("nth", 2)), [told("0101"), told("1010"), [-2]])
+        self.assertEqual(about("1100", *[("nth", k) for k in range(5)]),
+                         [told("0011"), told("0110"), told("1001"), told("1100"), [-2]])
+
+    def test_the_names_of_every_word_in_order(self):
+        for count in range(1, 11):
+            for text in all_words(count):
+                names = sorted(set(made_by_ways(text)))
+                found = about(text, *[("nth", k) for k in range(len(names) + 1)])
+                self.assertEqual(found, [told(name) for name in names] + [[-2]], text)
+
+    def test_the_first_of_them_is_the_first_name(self):
+        for text in ("1", "110", "1101000", "1011001000"):
+            with self.subTest(text):
+                found = about(text, ("first",), ("nth", 0))
+                self.assertEqual(found[0], found[1])
+
+    def test_it_has_not_so_many(self):
+        for text in ("0", "1", "10", "110", "1111111111", "1101000", "0010110111"):
+            names = len(set(made_by_ways(text)))
+            for k in (names, names + 1, 2 * names, 60, 2 ** 31, BIGGEST):
+                with self.subTest(text=text, k=k):
+                    self.assertEqual(about(text, ("nth", k), ("state",)), [[-2], told(text)])
+
+    def test_the_word_stays(self):
+        self.assertEqual(about("110", ("nth", 0), ("state",), ("nth", 4), ("state",))[1::2], [told("110")] * 2)
+
+
+class Which(unittest.TestCase):
+    def which(self, text, *others):
+        return about(text, *[("which", steps(other)) for other in others])
+
+    def test_by_hand(self):
+        self.assertEqual(self.which("110", "001", "010", "011", "100", "101", "110", "000", "111"),
+                         [[0], [1], [2], [3], [4], [5], [-33], [-33]])
+        self.assertEqual(self.which("1100", "1100", "0011", "1001", "0110", "0101", "0001", "1111"),
+                         [[3], [0], [2], [1], [-33], [-33], [-33]])
+
+    def test_every_pair_of_words_of_one_length(self):
+        for count in range(1, 8):
+            words = all_words(count)
+            for text in words:
+                names = sorted(set(made_by_ways(text)))
+                expected = [[names.index(other)] if other in names else [-33] for other in words]
+                self.assertEqual(self.which(text, *words), expected, text)
+
+    def test_it_undoes_nth(self):
+        for count in (8, 9, 10):
+            for text in all_words(count)[::7]:
+                names = about(text, ("names",))[0][0]
+                told_names = about(text, *[("nth", k) for k in range(names)])
+                found = about(text, *[("which", name[1:]) for name in told_names])
+                self.assertEqual(found, [[k] for k in range(names)], text)
 
 
 if __name__ == "__main__":
